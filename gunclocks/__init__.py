@@ -1,0 +1,1 @@
+"""Gunclocks: the hour told from one clock to many."""

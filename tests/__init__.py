@@ -1,0 +1,1 @@
+"""The tests of gunclocks, run by .ci/run."""

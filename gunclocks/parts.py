@@ -12,6 +12,15 @@ def is_whole(thing):
     return isinstance(thing, int) and not isinstance(thing, bool)
 
 
+def are_rising(thing, least, end):
+    """Whether thing is a rising tuple of whole numbers from least on, all of them ahead of end."""
+    if not isinstance(thing, tuple):
+        return False
+    if not all([is_whole(number) and least <= number < end for number in thing]):
+        return False
+    return all([ahead < behind for ahead, behind in zip(thing, thing[1:])])
+
+
 def is_part(thing):
     """Whether thing is a part."""
     if not isinstance(thing, tuple) or len(thing) != 2:

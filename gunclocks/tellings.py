@@ -1,6 +1,6 @@
 """Tellings: how far the errors of two clocks lie apart, and the ways that lead along them."""
 
-from gunclocks.errors import NoNumber, NoRow, NoTellings
+from gunclocks.errors import NoNumber, NoRow, NoTelling, NoTellings
 from gunclocks.parts import NOUGHT, added, is_less, is_part, is_whole, less
 
 CLOCKS = 6
@@ -50,6 +50,12 @@ def check_number(thing):
     """Refuse with NoNumber what is no clock's number."""
     if not is_clock_number(thing):
         raise NoNumber("this is no clock's number")
+
+
+def check_telling(thing):
+    """Refuse with NoTelling what is no telling."""
+    if not is_telling(thing):
+        raise NoTelling("this is no telling")
 
 
 def check_tellings(thing):

@@ -3,6 +3,8 @@
 import unittest
 from copy import deepcopy
 
+from gunclocks.errors import NoText, TooMany
+
 LONG = 10 ** 40 - 1
 DEEP = (((((((1,),),),),),),)
 WIDE_TEXT = "ab \t\n~" * 333
@@ -41,16 +43,25 @@ class Case(unittest.TestCase):
     def refuses(self, kind, call, *handed, **named):
         before = deepcopy((handed, named))
         for _ in range(2):
+            refusal = None
             try:
                 call(*handed, **named)
             except Exception as error:
-                found = type(error)
-            else:
-                found = None
-            if found is not kind:
-                self.fail(f"{call.__name__} of {handed} {named}: {found}, due is {kind}")
+                refusal = error
+            if type(refusal) is not kind:
+                self.fail(f"{call.__name__} of {handed} {named}: {refusal!r}, due is {kind}")
         if kinds(before) != kinds((handed, named)):
             self.fail(f"{call.__name__} changed what it refused")
+        return refusal
+
+    def too_many(self, many, most, call, *handed, **named):
+        refusal = self.refuses(TooMany, call, *handed, **named)
+        self.assertEqual(kinds((refusal.many, refusal.most)), kinds((many, most)))
+
+    def no_text(self, at, call, *handed, **named):
+        refusal = self.refuses(NoText, call, *handed, **named)
+        if kinds(refusal.at) != kinds(at):
+            self.fail(f"{call.__name__} of {handed} {named}: NoText of {refusal.at}, due is {at}")
 
 
 # What is no part, whatever else it may be. None stands first: some places allow it.
@@ -145,3 +156,39 @@ NO_ROWS = [
     ((1, 1),) + ROW[1:], ((-1, LONG),) + ROW[1:], ((0, 2),) + ROW[1:], ((0, -1),) + ROW[1:], ((False, 1),) + ROW[1:],
     ((0, True),) + ROW[1:], (None,) + ROW[1:], (0,) + ROW[1:], ([0, 1],) + ROW[1:], ROW[::-1], (ROW[:3], ROW[3:]),
 ] + [ROW[:at] + (wrong,) + ROW[at + 1:] for at in (1, 5) for wrong in NO_PARTS]
+
+BALL = ("ball", 0, 1, (5, 1), (13, 2))
+GUN = ("gun", 2, 3, (5, 1), (13, 2), (1, 20))
+WIRE = ("wire", 4, 5, (5, 1), (13, 2), (1, 6), (1, 2))
+SIGNALS = [
+    BALL, GUN, WIRE, BALL[:4] + (None,), GUN[:4] + (None, (1, 20)), WIRE[:4] + (None, (1, 6), (1, 2)),
+    ("ball", 5, 0, (0, 1), (0, 1)), ("ball", 3, 2, (-LONG, 1), (-1, LONG)), ("ball", 1, 0, (2, 1), (1, 1)),
+    ("gun", 0, 5, (0, 1), (-3, 1), (0, 1)), ("gun", 1, 2, (1, LONG), (LONG, 1), (LONG, LONG - 1)),
+    ("wire", 1, 0, (2, 3), (2, 3), (0, 1), (0, 1)), ("wire", 0, 1, (2, 3), (2, 3), (2, 5), (1, 2)),
+    ("wire", 0, 1, (2, 3), (2, 3), (1, 3), (1, 3)), ("wire", 5, 4, (1, 2), (9, 1), (0, 1), (LONG, 1)),
+]
+# None among parts stands for a missed signal where the hour of its coming stands.
+NO_SIGNALS = [
+    None, True, False, 0, 1, "", "ball", WIDE_TEXT, (), [], {}, DEEP, TELLING, (BALL,), [BALL], {0: BALL},
+    ("ball",), ("ball", BALL[1:]), BALL[1:], BALL[:4], GUN[:4], BALL[:3], (BALL, GUN), ((BALL[0],), BALL[1:]),
+    GUN[:5], WIRE[:5], WIRE[:6], BALL + (None,), BALL + ((0, 1),), BALL + ((0, 1), (0, 1)), GUN + (None,),
+    GUN + ((1, 20),), WIRE + (None,), WIRE + ((1, 2),), BALL[:4] + ((),), BALL[:3] + ((5, 1), (6, 1), ()),
+    GUN[:5] + ((),), WIRE[:5] + (((1, 6), (1, 2)),), GUN[:5] + ((-1, 20),), GUN[:5] + ((-1, LONG),), GUN[:5] + (0,),
+    WIRE[:5] + ((-1, 6), (1, 2)), WIRE[:5] + ((-1, LONG), (0, 1)), WIRE[:5] + ((1, 2), (1, 6)),
+    WIRE[:5] + ((1, 2), (2, 5)), WIRE[:5] + ((0, 1), (-1, 6)), WIRE[:5] + ((-1, 2), (-1, 2)),
+    ("Ball",) + BALL[1:], ("BALL",) + BALL[1:], ("ball ",) + BALL[1:], ("bal",) + BALL[1:], ("",) + BALL[1:],
+    ("gun",) + BALL[1:], ("wire",) + BALL[1:], ("ball",) + GUN[1:], ("wire",) + GUN[1:], ("ball",) + WIRE[1:],
+    ("gun",) + WIRE[1:], ("ship",) + BALL[1:], ("ship",) + GUN[1:], ("ship",) + WIRE[1:],
+] + [(wrong,) + told[1:] for told in (BALL, GUN, WIRE) for wrong in NO_PARTS] \
+  + [told[:1] + (wrong,) + told[2:] for told in (BALL, GUN, WIRE) for wrong in NO_NUMBERS] \
+  + [told[:2] + (wrong,) + told[3:] for told in (BALL, GUN, WIRE) for wrong in NO_NUMBERS] \
+  + [told[:1] + (4, 4) + told[3:] for told in (BALL, GUN, WIRE)] \
+  + [told[:3] + (wrong,) + told[4:] for told in (BALL, GUN, WIRE) for wrong in NO_PARTS] \
+  + [told[:4] + (wrong,) + told[5:] for told in (BALL, GUN, WIRE) for wrong in NO_ERRORS] \
+  + [told[:5] + (wrong,) + told[6:] for told in (GUN, WIRE) for wrong in NO_PARTS] \
+  + [WIRE[:6] + (wrong,) for wrong in NO_PARTS] \
+  + [list(told) for told in (BALL, GUN, WIRE)]
+NO_AIRS = [
+    None, True, False, 0, 1, LONG, "", "Air(1/5, 1/3)", WIDE_TEXT, (), [], {}, DEEP, (1, 3), ((1, 5), (1, 3)),
+    [(1, 5), (1, 3)], {"slow": (1, 5), "fast": (1, 3)}, ((1, 5),), BALL, TELLING, {(1, 5): (1, 3)},
+]

@@ -1,7 +1,9 @@
 """Clocks: what they show, and which hours they tell twice or not at all."""
 
 from gunclocks.errors import NoClock, NoHour, NoMoment
-from gunclocks.parts import NOUGHT, added, check_part, divided, is_less, is_part, less, times
+from gunclocks.parts import (
+    NOUGHT, added, check_part, divided, is_less, is_part, less, product_of, sum_of, times,
+)
 
 DAY_HOURS = (24, 1)
 MOST_GAIN = 12
@@ -125,23 +127,31 @@ def moments_of(clock, hour, error=None):
     return found
 
 
-def leaps_of(clock, error):
-    """For each set the hours that the clock would have shown without it, and that it shows."""
+def leaps_of(clock, error, are_ahead):
+    """The tuple (before, shown) of each set that puts the clock ahead, or of each that turns it back.
+
+    Before is the hour that the clock would have shown at that moment without this set.
+    """
     begun = error_told(error)
+    # The clock was looked at as a whole: so none of its parts need be looked at once more.
+    gain, sets = clock
+    by_day = sum_of(DAY_HOURS, gain)
     leaps = []
-    for moment, jump in clock[1]:
-        shown = shown_at(clock, moment, begun)
-        leaps.append((less(shown, jump), shown))
+    for moment, jump in sets:
+        if (jump[0] > 0) == are_ahead:
+            before = sum_of(product_of(by_day, moment), begun)
+            leaps.append((before, sum_of(before, jump)))
+        begun = sum_of(begun, jump)
     return leaps
 
 
 def turned_back(clock, error=None):
     """For each set that turns the clock back, (low, high): what it shows, and would have shown."""
     check_clock(clock)
-    return [(shown, before) for before, shown in leaps_of(clock, error) if is_less(shown, before)]
+    return [(shown, before) for before, shown in leaps_of(clock, error, False)]
 
 
 def skipped(clock, error=None):
     """For each set that puts the clock ahead, (low, high): what it would have shown, and shows."""
     check_clock(clock)
-    return [(before, shown) for before, shown in leaps_of(clock, error) if is_less(before, shown)]
+    return leaps_of(clock, error, True)

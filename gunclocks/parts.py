@@ -55,11 +55,27 @@ def lowest(top, bottom):
     return (top // shared, bottom // shared)
 
 
+def sum_of(one, other):
+    """The sum of two parts that were looked at already."""
+    top = one[0] * other[1] + other[0] * one[1]
+    bottom = one[1] * other[1]
+    shared = gcd(top, bottom)
+    return (top // shared, bottom // shared)
+
+
+def product_of(one, other):
+    """The product of two parts that were looked at already."""
+    top = one[0] * other[0]
+    bottom = one[1] * other[1]
+    shared = gcd(top, bottom)
+    return (top // shared, bottom // shared)
+
+
 def added(one, other):
     """The sum of two parts."""
     check_part(one)
     check_part(other)
-    return lowest(one[0] * other[1] + other[0] * one[1], one[1] * other[1])
+    return sum_of(one, other)
 
 
 def less(one, other):
@@ -73,7 +89,7 @@ def times(one, other):
     """The product of two parts."""
     check_part(one)
     check_part(other)
-    return lowest(one[0] * other[0], one[1] * other[1])
+    return product_of(one, other)
 
 
 def divided(one, other):

@@ -250,6 +250,57 @@ class Leaps(Case):
         self.tells([((23, 1), (26, 1))], skipped, error=(-1, 1), clock=AHEAD)
 
 
+MANY = ((1, 7), (
+    ((1, 3), (-1, 2)), ((2, 3), (1, 2)), ((5, 3), (-1, 4)), ((7, 3), (1, 9)), ((8, 3), (-2, 3)), ((10, 3), (1, 2)),
+))
+
+
+class LeapsOfManySets(Case):
+    def test_both_ways_by_turns(self):
+        self.tells([
+            ((1627, 210), (866, 105)), ((16879, 420), (4246, 105)), ((80357, 1260), (81197, 1260)),
+        ], turned_back, MANY, (1, 5))
+        self.tells([
+            ((3317, 210), (1711, 105)), ((3377, 60), (10151, 180)), ((100637, 1260), (101267, 1260)),
+        ], skipped, MANY, (1, 5))
+
+    def test_no_error_is_nought(self):
+        back = [((317, 42), (169, 21)), ((3359, 84), (845, 21)), ((16021, 252), (16189, 252))]
+        ahead = [((655, 42), (338, 21)), ((673, 12), (2023, 36)), ((20077, 252), (20203, 252))]
+        for errors in ((), (None,), ((0, 1),)):
+            self.tells(back, turned_back, MANY, *errors)
+            self.tells(ahead, skipped, MANY, *errors)
+
+    def test_it_tells_what_is_shown(self):
+        for clock in CLOCKS + [MANY]:
+            for error in ERRORS:
+                told = {(low, high): True for low, high in skipped(clock, error)}
+                told.update({(high, low): True for low, high in turned_back(clock, error)})
+                due = {}
+                for moment, jump in clock[1]:
+                    shown = shown_at(clock, moment, error)
+                    due[(less(shown, jump), shown)] = True
+                self.assertEqual(told, due)
+
+    def test_refused(self):
+        more = MANY[1] + (((11, 3), (1, 1)),)
+        for call in (turned_back, skipped):
+            for wrong in (None, (MANY[0], more), (MANY[0], MANY[1][::-1]), ((13, 1), MANY[1]), list(MANY)):
+                self.refuses(NoClock, call, wrong, (1, 5))
+                self.refuses(NoClock, call, wrong, ())
+                self.refuses(NoClock, call, wrong)
+            for wrong in NO_ERRORS:
+                self.refuses(NoPart, call, MANY, wrong)
+            for at in range(6):
+                for wrong in NO_MOMENTS:
+                    self.refuses(NoClock, call, (MANY[0], self.put_at(at, (wrong, (1, 1)))), (1, 5))
+                for wrong in NO_PARTS + [(0, 1)]:
+                    self.refuses(NoClock, call, (MANY[0], self.put_at(at, (MANY[1][at][0], wrong))), ())
+
+    def put_at(self, at, entry):
+        return MANY[1][:at] + (entry,) + MANY[1][at + 1:]
+
+
 class WhatIsTold(Case):
     def test_lists_told_are_the_asker_s_own(self):
         for call, handed in ((moments_of, (BACK, (21, 1))), (turned_back, (BACK,)), (skipped, (AHEAD,))):

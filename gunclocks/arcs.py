@@ -37,6 +37,11 @@ def turned_round(arcs):
     return [(end, begin, length, step) for begin, end, length, step in arcs]
 
 
+def arcs_without(arcs, number):
+    """The arcs but for those of the telling of this number."""
+    return [arc for arc in arcs if arc[3][0] != number]
+
+
 def part_over(length, bottom):
     """The part that a length stands for, None where there is none."""
     if length is None:
@@ -94,6 +99,11 @@ def lengths_from(arcs, clock):
     lengths[clock] = 0
     settle(arcs, lengths, [None] * CLOCKS)
     return lengths
+
+
+def all_ends(arcs):
+    """For each clock (down, up): how long the shortest ways from it to the clock 0, and back to it, are."""
+    return list(zip(lengths_from(turned_round(arcs), 0), lengths_from(arcs, 0)))
 
 
 def plain_rings(tellings):

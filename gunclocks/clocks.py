@@ -2,7 +2,7 @@
 
 from gunclocks.errors import NoClock, NoHour, NoMoment
 from gunclocks.parts import (
-    NOUGHT, added, check_part, divided, is_less, is_part, less, product_of, sum_of, times,
+    NOUGHT, added, check_part, divided, is_below, is_less, is_part, less, product_of, sum_of, times,
 )
 
 DAY_HOURS = (24, 1)
@@ -71,16 +71,21 @@ def error_told(error):
     return error
 
 
+def grown_by(clock, moment):
+    """By how much the clock's error has become greater by the moment, both looked at already."""
+    gain, sets = clock
+    grown = product_of(moment, gain)
+    for set_at, jump in sets:
+        if not is_below(moment, set_at):
+            grown = sum_of(grown, jump)
+    return grown
+
+
 def drift(clock, moment):
     """By how much the clock's error has become greater by the moment."""
     check_clock(clock)
     check_moment(moment)
-    gain, sets = clock
-    grown = times(moment, gain)
-    for set_at, jump in sets:
-        if not is_less(moment, set_at):
-            grown = added(grown, jump)
-    return grown
+    return grown_by(clock, moment)
 
 
 def shown_at(clock, moment, error=None):

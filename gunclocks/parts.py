@@ -31,6 +31,11 @@ def is_part(thing):
     return bottom > 0 and gcd(top, bottom) == 1
 
 
+def is_from_nought(thing):
+    """Whether thing is a part from 0 on."""
+    return is_part(thing) and thing[0] >= 0
+
+
 def check_part(thing):
     """Refuse with NoPart what is no part."""
     # No message shows what was handed in: Python refuses to write very long numbers.
@@ -63,12 +68,25 @@ def sum_of(one, other):
     return (top // shared, bottom // shared)
 
 
+def difference_of(one, other):
+    """The first part less the second, of parts that were looked at already."""
+    top = one[0] * other[1] - other[0] * one[1]
+    bottom = one[1] * other[1]
+    shared = gcd(top, bottom)
+    return (top // shared, bottom // shared)
+
+
 def product_of(one, other):
     """The product of two parts that were looked at already."""
     top = one[0] * other[0]
     bottom = one[1] * other[1]
     shared = gcd(top, bottom)
     return (top // shared, bottom // shared)
+
+
+def is_below(one, other):
+    """Whether the first part is less than the second, of parts that were looked at already."""
+    return one[0] * other[1] < other[0] * one[1]
 
 
 def added(one, other):
@@ -82,7 +100,7 @@ def less(one, other):
     """The first part less the second."""
     check_part(one)
     check_part(other)
-    return lowest(one[0] * other[1] - other[0] * one[1], one[1] * other[1])
+    return difference_of(one, other)
 
 
 def times(one, other):

@@ -1,16 +1,11 @@
 """Signals: balls, guns and wires between two clocks, how long they take, and what they tell."""
 
 from gunclocks.errors import NoAir, NoSignal, TooMany
-from gunclocks.parts import NOUGHT, check_part, divided, is_less, is_part, less
+from gunclocks.parts import NOUGHT, check_part, divided, is_from_nought, is_less, is_part, less
 from gunclocks.tellings import check_number, is_clock_number
 from gunclocks.texts import part_shown
 
 MOST_SIGNALS = 10
-
-
-def is_from_nought(thing):
-    """Whether thing is a part from 0 on."""
-    return is_part(thing) and thing[0] >= 0
 
 
 class Air:

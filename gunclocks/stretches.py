@@ -1,7 +1,7 @@
 """Stretches: between which errors each clock must lie by all tellings, no wider and no narrower."""
 
 from gunclocks.arcs import (
-    arcs_of, lengths_from, part_over, ring_along, settle, shared_bottom, steps_back, turned_round,
+    all_ends, arcs_of, lengths_from, part_over, ring_along, settle, shared_bottom, steps_back, turned_round,
 )
 from gunclocks.errors import Apart, NoNumber
 from gunclocks.parts import NOUGHT, are_rising, less, lowest
@@ -36,6 +36,11 @@ def stretch_along(arcs, bottom, clock, other):
     to_other = lengths_from(arcs, clock)[other]
     to_clock = lengths_from(arcs, other)[clock]
     return (part_over(to_other, -bottom), part_over(to_clock, bottom))
+
+
+def all_stretches(arcs, bottom):
+    """For each clock its stretch, of arcs of tellings that agree."""
+    return [(part_over(down, -bottom), part_over(up, bottom)) for down, up in all_ends(arcs)]
 
 
 def stretch_of(tellings, clock, other=0):

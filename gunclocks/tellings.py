@@ -1,7 +1,7 @@
 """Tellings: how far the errors of two clocks lie apart, and the ways that lead along them."""
 
 from gunclocks.errors import NoNumber, NoRow, NoTelling, NoTellings
-from gunclocks.parts import NOUGHT, added, is_less, is_part, is_whole, less
+from gunclocks.parts import NOUGHT, added, difference_of, is_below, is_less, is_part, is_whole, less
 
 CLOCKS = 6
 MOST_TELLINGS = 16
@@ -70,13 +70,17 @@ def check_row(thing):
         raise NoRow("this is no row of errors")
 
 
-def is_kept(telling, row):
-    """Whether the row keeps the telling."""
-    one, other, low, high = telling
-    apart = less(row[other], row[one])
-    if low is not None and is_less(apart, low):
+def is_between(worth, low, high):
+    """Whether the worth lies from low to high, each None where it is no bound; all looked at already."""
+    if low is not None and is_below(worth, low):
         return False
-    return high is None or not is_less(high, apart)
+    return high is None or not is_below(high, worth)
+
+
+def is_kept(telling, row):
+    """Whether the row keeps the telling, both looked at already."""
+    one, other, low, high = telling
+    return is_between(difference_of(row[other], row[one]), low, high)
 
 
 def first_broken(tellings, row):

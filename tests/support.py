@@ -192,3 +192,52 @@ NO_AIRS = [
     None, True, False, 0, 1, LONG, "", "Air(1/5, 1/3)", WIDE_TEXT, (), [], {}, DEEP, (1, 3), ((1, 5), (1, 3)),
     [(1, 5), (1, 3)], {"slow": (1, 5), "fast": (1, 3)}, ((1, 5),), BALL, TELLING, {(1, 5): (1, 3)},
 ]
+
+# What are no watched clocks; None among them is never allowed.
+NO_WATCHED = [
+    None, True, False, 0, 1, 5, -1, LONG, "", "1", "12", WIDE_TEXT, (), [], {}, DEEP, [1], [1, 2], {1: 2}, (0,),
+    (0, 1), (0, 1, 2, 3, 4, 5), (1, 2, 3, 4, 5, 6), (1, 1), (1, 2, 2), (2, 1), (1, 3, 2), (5, 4, 3, 2, 1), (6,), (1, 6),
+    (-1,), (-1, 1), (LONG,), (1, LONG), (True,), (True, 2), (1, True), (False, 1), (None,), (1, None), (None, 1),
+    ("1",), (1, "2"), ((1,),), ((1, 2),), (1, (2,)), ([1],), (1, {}), (1, 2, 3, 4, 5, 5), tuple(range(200)),
+    tuple(range(1, 200)), TELLING,
+]
+NO_OFFERS = NO_TELLINGS + [(), (TELLING,) * 7, (TELLING,) * 16, SIXTEEN, SIXTEEN[:7], (TELLING,) * 6 + (None,)]
+
+CARRIAGE = (0, 1, (5, 1), (3, 1), (10, 1), (-1, 2), (1, 3))
+CARRIAGES = [
+    CARRIAGE, (5, 0, (0, 1), (0, 1), (0, 1), (0, 1), (0, 1)), (4, 3, (-1, 2), (7, 3), (2, 5), (2, 5), (1, 2)),
+    (1, 2, (LONG, 1), (-LONG, LONG - 1), (LONG, 7), (-LONG, 1), (1, LONG)),
+    (2, 1, (1, LONG), (1, 1), (1, 1), (-3, 1), (-3, 1)), (3, 5, (0, 1), (-1, 1), (1, LONG), (1, LONG), (1, LONG - 1)),
+]
+NO_CARRIAGE = [
+    None, True, False, 0, 1, "", "0>1 5 3 10", "0123456", WIDE_TEXT, (), [], {}, DEEP, (0, 1), TELLING, BALL, WIRE,
+    CARRIAGE[:6], CARRIAGE[1:], CARRIAGE + (None,), CARRIAGE + ((0, 1),), (CARRIAGE,), ((CARRIAGE,),), list(CARRIAGE),
+    [CARRIAGE], {0: CARRIAGE}, (CARRIAGE[:2], CARRIAGE[2:]), (CARRIAGE[:2],) + CARRIAGE[2:],
+    CARRIAGE[:5] + (CARRIAGE[5:],), (0, 1, 5, 3, 10, -1, 1), CARRIAGE[:6] + ((-2, 3),), CARRIAGE[:5] + ((2, 5), (1, 3)),
+    CARRIAGE[:5] + ((1, LONG - 1), (1, LONG)), CARRIAGE[:5] + ((0, 1), (-1, LONG)),
+] + [CARRIAGE[:4] + (wrong,) + CARRIAGE[5:] for wrong in ((-1, 1), (-1, 2), (-1, LONG), (-LONG, 1))] \
+  + [(wrong,) + CARRIAGE[1:] for wrong in NO_NUMBERS] \
+  + [CARRIAGE[:1] + (wrong,) + CARRIAGE[2:] for wrong in NO_NUMBERS] \
+  + [(each, each) + CARRIAGE[2:] for each in range(6)] \
+  + [CARRIAGE[:at] + (wrong,) + CARRIAGE[at + 1:] for at in range(2, 7) for wrong in NO_PARTS]
+TEN_CARRIAGES = (CARRIAGE, CARRIAGES[2], CARRIAGES[1], CARRIAGES[5], CARRIAGES[4]) * 2
+NO_CARRIAGES = [
+    None, True, False, 0, 1, "", "none", WIDE_TEXT, [], {}, DEEP, [CARRIAGE], {0: CARRIAGE}, CARRIAGE, TELLING,
+    (TELLING,), list(TEN_CARRIAGES), ((CARRIAGE,),), ((),), (CARRIAGE, ()), (CARRIAGE, None), (None, CARRIAGE),
+    (CARRIAGE, [CARRIAGE]), (CARRIAGE, (CARRIAGE,)), TEN_CARRIAGES + (CARRIAGE,), (CARRIAGE,) * 16,
+    TEN_CARRIAGES + (None,),
+    TEN_CARRIAGES[:9] + (None,),
+] + [(wrong,) for wrong in NO_CARRIAGE] + [(CARRIAGE, wrong, CARRIAGE) for wrong in NO_CARRIAGE]
+
+GAINS = ((0, 1), (1, 2), (-1, 3), (12, 1), (-12, 1), (0, 1))
+NO_GAINS = [
+    None, True, False, 0, 1, "", "000000", WIDE_TEXT, (), [], {}, DEEP, (0, 1), CLOCK, TELLING, GAINS[:5], GAINS[1:],
+    GAINS + ((0, 1),), GAINS + (None,), list(GAINS), (GAINS,), [GAINS], {at: GAINS[at] for at in range(6)},
+    (0, 0, 0, 0, 0, 0), (GAINS[:3], GAINS[3:]), tuple([(gain,) for gain in GAINS]), ((1, 1),) + GAINS[1:],
+    ((-1, LONG),) + GAINS[1:], ((1, 2),) * 6, tuple([(gain, ()) for gain in GAINS]), (None,) * 6, ((0, 1),) * 7,
+    ((0, 1),) * 5, (False, True) * 3,
+] + [GAINS[:at] + (wrong,) + GAINS[at + 1:] for at in (0, 1, 5) for wrong in NO_PARTS + [
+    (13, 1), (-13, 1), (25, 2), (-25, 2), (LONG, 1), (12 * LONG + 1, LONG), (-12 * LONG - 1, LONG), CLOCK,
+]]
+NO_JUMPS = NO_PARTS + [(0, 1)]
+NO_MISSING = NO_WHOLES + [-1, LONG, -LONG, (0,), [0], "0"]

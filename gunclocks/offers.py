@@ -5,7 +5,7 @@ from gunclocks.errors import NoNumber, NoTellings, TooMany
 from gunclocks.parts import are_rising, check_part, difference_of, is_below
 from gunclocks.stretches import are_free, check_agree, check_erring, half_paper
 from gunclocks.tellings import (
-    CLOCKS, are_tellings, check_telling, check_tellings, first_broken, is_clock_number, is_ring, is_row,
+    CLOCKS, are_tellings, check_telling, check_tellings, first_not_kept, is_clock_number, is_ring, is_row,
 )
 
 MOST_OFFERS = 6
@@ -157,7 +157,7 @@ def shows_wide(told, clock, row, other, width):
     """Whether both are rows that keep the tellings, the other's error of the clock so much greater."""
     if width is None or not is_row(row) or not is_row(other):
         return False
-    if first_broken(told, row) is not None or first_broken(told, other) is not None:
+    if first_not_kept(told, row) is not None or first_not_kept(told, other) is not None:
         return False
     return is_as_wide(row[clock], other[clock], width)
 

@@ -84,6 +84,11 @@ def product_of(one, other):
     return (top // shared, bottom // shared)
 
 
+def opposite(part):
+    """Nought less the part, of one that was looked at already."""
+    return (-part[0], part[1])
+
+
 def is_below(one, other):
     """Whether the first part is less than the second, of parts that were looked at already."""
     return one[0] * other[1] < other[0] * one[1]

@@ -4,8 +4,10 @@ from gunclocks.arcs import (
     all_ends, arcs_of, lengths_from, part_over, ring_along, settle, shared_bottom, steps_back, turned_round,
 )
 from gunclocks.errors import Apart, NoNumber
-from gunclocks.parts import NOUGHT, are_rising, less, lowest
-from gunclocks.tellings import CLOCKS, check_number, check_tellings, first_broken, is_clock_number, is_row, way_of
+from gunclocks.parts import are_rising, lowest, opposite
+from gunclocks.tellings import (
+    CLOCKS, check_number, check_tellings, first_not_kept, is_clock_number, is_row, way_along,
+)
 
 
 def ring_of(tellings):
@@ -107,7 +109,7 @@ def are_free(arcs, clock, thing):
 
 def is_row_with(tellings, clock, error, thing):
     """Whether thing is a row that keeps all tellings and has this error of the clock."""
-    return is_row(thing) and thing[clock] == error and first_broken(tellings, thing) is None
+    return is_row(thing) and thing[clock] == error and first_not_kept(tellings, thing) is None
 
 
 def paper_holds(tellings, clock, thing):
@@ -121,12 +123,13 @@ def paper_holds(tellings, clock, thing):
         return False
     down, up, least, most = thing
     low, high = stretch_along(arcs, bottom, clock, 0)
+    # The tellings were looked at already, so none of these looks at them once more.
     if high is None:
         upper = up is None and are_free(arcs, clock, most)
     else:
-        upper = way_of(tellings, 0, up) == (clock, high) and is_row_with(tellings, clock, high, most)
+        upper = way_along(tellings, 0, up) == (clock, high) and is_row_with(tellings, clock, high, most)
+    if not upper:
+        return False
     if low is None:
-        lower = down is None and are_free(turned_round(arcs), clock, least)
-    else:
-        lower = way_of(tellings, clock, down) == (0, less(NOUGHT, low)) and is_row_with(tellings, clock, low, least)
-    return upper and lower
+        return down is None and are_free(turned_round(arcs), clock, least)
+    return way_along(tellings, clock, down) == (0, opposite(low)) and is_row_with(tellings, clock, low, least)

@@ -1,7 +1,7 @@
 """Tellings: how far the errors of two clocks lie apart, and the ways that lead along them."""
 
 from gunclocks.errors import NoNumber, NoRow, NoTelling, NoTellings
-from gunclocks.parts import NOUGHT, added, difference_of, is_below, is_less, is_part, is_whole, less
+from gunclocks.parts import NOUGHT, difference_of, is_below, is_part, is_whole, opposite, sum_of
 
 CLOCKS = 6
 MOST_TELLINGS = 16
@@ -19,7 +19,7 @@ def are_bounds(low, high):
         return is_part(high)
     if high is None:
         return is_part(low)
-    return is_part(low) and is_part(high) and not is_less(high, low)
+    return is_part(low) and is_part(high) and not is_below(high, low)
 
 
 def is_telling(thing):
@@ -36,7 +36,10 @@ def are_tellings(thing):
     """Whether thing is a tuple of no more tellings than may be."""
     if not isinstance(thing, tuple) or len(thing) > MOST_TELLINGS:
         return False
-    return all([is_telling(telling) for telling in thing])
+    for telling in thing:
+        if not is_telling(telling):
+            return False
+    return True
 
 
 def is_row(thing):
@@ -83,14 +86,19 @@ def is_kept(telling, row):
     return is_between(difference_of(row[other], row[one]), low, high)
 
 
-def first_broken(tellings, row):
-    """The number of the first telling that the row doesn't keep, None where it keeps all."""
-    check_tellings(tellings)
-    check_row(row)
+def first_not_kept(tellings, row):
+    """The same as first_broken, of tellings and a row that were looked at already."""
     for number, telling in enumerate(tellings):
         if not is_kept(telling, row):
             return number
     return None
+
+
+def first_broken(tellings, row):
+    """The number of the first telling that the row doesn't keep, None where it keeps all."""
+    check_tellings(tellings)
+    check_row(row)
+    return first_not_kept(tellings, row)
 
 
 def is_step(tellings, thing):
@@ -110,13 +118,11 @@ def step_along(telling, sign):
         return (one, other, high)
     if low is None:
         return (other, one, None)
-    return (other, one, less(NOUGHT, low))
+    return (other, one, opposite(low))
 
 
-def way_of(tellings, clock, thing):
-    """The tuple (end, length) where thing is a way from the clock, None where it is none."""
-    check_tellings(tellings)
-    check_number(clock)
+def way_along(tellings, clock, thing):
+    """The same as way_of, of tellings and a clock that were looked at already."""
     if not isinstance(thing, tuple) or len(thing) > MOST_STEPS:
         return None
     reached = clock
@@ -128,8 +134,15 @@ def way_of(tellings, clock, thing):
         if begin != reached or far is None:
             return None
         reached = end
-        length = added(length, far)
+        length = sum_of(length, far)
     return (reached, length)
+
+
+def way_of(tellings, clock, thing):
+    """The tuple (end, length) where thing is a way from the clock, None where it is none."""
+    check_tellings(tellings)
+    check_number(clock)
+    return way_along(tellings, clock, thing)
 
 
 def is_ring(tellings, thing):
@@ -138,6 +151,6 @@ def is_ring(tellings, thing):
     if not isinstance(thing, tuple) or len(thing) != 2 or not is_clock_number(thing[0]):
         return False
     clock, way = thing
-    told = way_of(tellings, clock, way)
+    told = way_along(tellings, clock, way)
     # A way without a step is 0 long, so it is never a ring.
     return told is not None and told[0] == clock and told[1][0] < 0

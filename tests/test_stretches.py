@@ -4,7 +4,7 @@ import unittest
 from itertools import product
 
 from gunclocks.errors import Apart, NoNumber, NoTellings
-from gunclocks.parts import added, less, times
+from gunclocks.parts import added, less, part_of, times
 from gunclocks.stretches import agree, paper_holds, ring_of, stretch_of, stretch_paper
 from gunclocks.tellings import first_broken, is_ring, way_of
 from tests.reckoning import (
@@ -378,6 +378,62 @@ class PaperHolds(Case):
 
     def test_by_name(self):
         self.tells(True, paper_holds, thing=SMALL_PAPER, clock=1, tellings=SMALL)
+
+
+# Sixteen tellings that agree and tie all clocks to one another.
+SIXTEEN_TIES = tuple([
+    (at % 6, (at + 1 + at // 6) % 6 if (at + 1 + at // 6) % 6 != at % 6 else (at + 2) % 6, part_of(at - 20, 3),
+     part_of(40 + at, 7)) for at in range(1, 17)
+])
+LEAST_TIES = ((0, 1), (-178, 21), (-14, 3), (-8, 3), (-50, 7), (-19, 3))
+MOST_TIES = ((0, 1), (17, 3), (46, 7), (5, 3), (10, 3), (5, 1))
+PAPER_TIES = (((11, -1),), ((14, -1),), LEAST_TIES, MOST_TIES)
+
+
+class PaperOfSixteen(Case):
+    def test_it_holds(self):
+        self.tells(True, paper_holds, SIXTEEN_TIES, 3, PAPER_TIES)
+        self.assertTrue(due_paper(SIXTEEN_TIES, 3, PAPER_TIES))
+
+    def test_exchanged_it_does_not(self):
+        down, up, least, most = PAPER_TIES
+        for paper in ((up, down, least, most), (down, up, most, least), (up, down, most, least)):
+            self.tells(False, paper_holds, SIXTEEN_TIES, 3, paper)
+        for clock in (1, 2, 4, 5):
+            self.tells(False, paper_holds, SIXTEEN_TIES, clock, PAPER_TIES)
+
+    def test_with_a_part_of_a_row_made_otherwise(self):
+        broken = 0
+        for at, clock in product((2, 3), range(6)):
+            row = PAPER_TIES[at]
+            for worth in ((99, 1), (-99, 1), added(row[clock], (1, LONG)), less(row[clock], (1, LONG))):
+                other = row[:clock] + (worth,) + row[clock + 1:]
+                paper = PAPER_TIES[:at] + (other,) + PAPER_TIES[at + 1:]
+                due = due_paper(SIXTEEN_TIES, 3, paper)
+                self.tells(due, paper_holds, SIXTEEN_TIES, 3, paper)
+                broken += clock not in (0, 3) and not due and first_broken(SIXTEEN_TIES, other) is not None
+        self.assertGreater(broken, 15)
+
+    def test_of_what_is_no_paper(self):
+        for wrong in (None, (), PAPER_TIES[:3], list(PAPER_TIES), PAPER_TIES + (None,), (None,) * 4, True, "paper"):
+            self.tells(False, paper_holds, SIXTEEN_TIES, 3, wrong)
+        places = (None, (), ((0, 1),), ((16, 1),), ((11, 0),), True, ((-5, -1),), [(11, -1)])
+        for at, wrong in product(range(4), places):
+            paper = PAPER_TIES[:at] + (wrong,) + PAPER_TIES[at + 1:]
+            self.tells(False, paper_holds, SIXTEEN_TIES, 3, paper)
+
+    def test_refused_in_the_same_order_whatever_the_paper(self):
+        apart = SIXTEEN_TIES[:15] + ((0, 3, (2, 1), None),)
+        self.assertFalse(do_agree(apart))
+        for paper in (PAPER_TIES, None, (), PAPER_TIES[:3], True, PAPER_TIES[::-1]):
+            for wrong in (None, list(apart), apart + (TELLING,), apart[:15] + (None,), SIXTEEN_TIES + (TELLING,)):
+                for clock in (3, 0, None, 6):
+                    self.refuses(NoTellings, paper_holds, wrong, clock, paper)
+            for clock in NO_ERRING:
+                self.refuses(NoNumber, paper_holds, SIXTEEN_TIES, clock, paper)
+                self.refuses(NoNumber, paper_holds, apart, clock, paper)
+            for clock in ERRING:
+                self.refuses(Apart, paper_holds, apart, clock, paper)
 
 
 class Refusals(Case):

@@ -79,7 +79,7 @@ def false_answer(post, handed):
     return DONE
 
 
-def back_answer(post, handed):
+def back_answer(post, _):
     """Undo the last deed."""
     post.back()
     return DONE
@@ -92,7 +92,7 @@ def stretch_answer(post, handed):
     return f"{end_shown(low)} {end_shown(high)}"
 
 
-def standing_answer(post, handed):
+def standing_answer(post, _):
     """All tellings that stand, each behind its number."""
     shown = [f"{number} {telling_shown(telling)}" for number, telling in post.standing()]
     return "; ".join(shown) or NOTHING
@@ -105,9 +105,9 @@ def clock_answer(post, handed):
     return "; ".join([part_shown(gain)] + shown)
 
 
-def narrowed_answer(post, handed):
+def narrowed_answer(post, _):
     """The numbers of the clocks whose stretches the last deed made others."""
-    return " ".join([str(clock) for clock, _, _ in post.narrowed()]) or NOTHING
+    return " ".join([str(entry[0]) for entry in post.narrowed()]) or NOTHING
 
 
 def error_answer(post, handed):

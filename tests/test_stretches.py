@@ -8,7 +8,7 @@ from gunclocks.parts import added, less, part_of, times
 from gunclocks.stretches import agree, paper_holds, ring_of, stretch_of, stretch_paper
 from gunclocks.tellings import first_broken, is_ring, way_of
 from tests.reckoning import (
-    do_agree, due_stretch, is_due_ring, keeps_all, many_tellings, rising_numbers, way_along,
+    do_agree, due_stretch, is_due_free, is_due_ring, keeps_all, many_tellings, rising_numbers, way_along,
 )
 from tests.support import (
     DEEP, LONG, NO_NUMBERS, NO_PARTS, NO_ROWS, NO_TELLINGS, SIXTEEN, TELLING, WIDE_TEXT, Case, kinds,
@@ -174,16 +174,7 @@ class StretchOf(Case):
 
 def due_free(tellings, clock, some, side):
     """Whether some is as 3.6 tells it where the clock lacks this end."""
-    if kinds(some) not in RISING or clock not in some or 0 in some:
-        return False
-    for one, other, low, high in tellings:
-        if side == "low":
-            low, high = high, low
-        if high is not None and other in some and one not in some:
-            return False
-        if low is not None and one in some and other not in some:
-            return False
-    return True
+    return kinds(some) in RISING and is_due_free(tellings, clock, some, side)
 
 
 def due_row(tellings, clock, error, row):
